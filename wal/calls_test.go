@@ -344,6 +344,26 @@ func TestP1504BeneathTheSameLength(t *testing.T) {
 	}
 }
 
+// The same bytes, at another Base.
+func TestP1504BeneathTheSameBytes(t *testing.T) {
+	for _, l := range [][]string{{"a"}, {"a", "b"}, {"", ""}} {
+		p := started(t, 1000, l...)
+		end := p.d.End()
+		p.d.Retire(end)
+		p.d.Append([]byte(bytesOf(l...)))
+		for range 2 {
+			isLog(t, p.w, p.d, end, l...)
+			if _, e := p.w.Since(0); e != api.ErrArg {
+				t.Error(e)
+			}
+		}
+		if p.w.Truncate(0) != api.ErrArg || p.w.Retire(end-1) != api.ErrArg || p.w.Truncate(end) != api.OK {
+			t.Error("places of another Base")
+		}
+		isLog(t, p.w, p.d, end)
+	}
+}
+
 // The disk is changed beneath, and then the wal goes on: what it told of the
 // log before does not count.
 func TestP1504BeneathAndOn(t *testing.T) {
